@@ -1,0 +1,1 @@
+"""Graph pebbling: moves and reachability. The functions stand in halvedpebbles.graph."""

@@ -1,0 +1,150 @@
+"""What holds of every call: its form, its answer's form, and that it leaves nothing behind."""
+
+import contextlib
+import inspect
+import io
+import sys
+import unittest
+
+from halvedpebbles import graph
+
+PATH_3 = [0, 1, 1, 2]
+CYCLE_4 = [0, 1, 0, 3, 1, 2, 2, 3]
+
+# Calls with the name of the operation, what is handed in, and the answer.
+CALLS = [
+    ("min_moves", (3, 2, 1, PATH_3, [4, 0, 0]), [3]),
+    ("min_moves", (3, 2, 1, PATH_3, [3, 0, 0]), [-33]),
+    ("min_moves", (3, 2, 0, PATH_3, [0, 0, 0]), [0]),
+    ("min_moves", (3, 2, 1, PATH_3, [0, 2, 0]), [1]),
+    ("min_moves", (3, 2, 1, [0, 2], [4, 0, 0]), [1]),
+    ("min_moves", (3, 2, 1, [0, 1], [4, 0, 0]), [-33]),
+    ("min_moves", (3, 0, 4, PATH_3, [4, 0, 0]), [0]),
+    ("min_moves", (3, 1, 2, PATH_3, [4, 0, 0]), [2]),
+    ("min_moves", (3, 3, 1, PATH_3, [4, 0, 0]), [-2]),
+    ("min_moves", (3, 2, 1, [0, 1, 1], [4, 0, 0]), [-22]),
+    ("min_moves", (3, 2, 1, PATH_3, [4, 0]), [-22]),
+    ("min_moves", (4, 2, 4, CYCLE_4, [4, 3, 0, 3]), [6]),
+    ("max_pebbles_at", (3, 2, PATH_3, [4, 0, 0]), [1]),
+    ("max_pebbles_at", (3, 2, PATH_3, [3, 0, 0]), [0]),
+    ("max_pebbles_at", (3, 1, PATH_3, [2, 0, 0]), [1]),
+    ("max_pebbles_at", (3, 2, [0, 2], [4, 0, 0]), [2]),
+    ("max_pebbles_at", (3, 2, [0, 1], [4, 0, 0]), [0]),
+    ("max_pebbles_at", (3, 0, PATH_3, [4, 0, 0]), [4]),
+    ("max_pebbles_at", (3, 3, PATH_3, [4, 0, 0]), [-2]),
+    ("max_pebbles_at", (3, 2, [1, 0], [4, 0, 0]), [-22]),
+    ("max_pebbles_at", (3, 2, PATH_3, [13, 0, 0]), [-22]),
+    ("max_pebbles_at", (4, 2, CYCLE_4, [4, 3, 0, 3]), [4]),
+]
+
+
+def copied(handed):
+    return tuple(list(value) if isinstance(value, list) else value for value in handed)
+
+
+def called(name, handed):
+    return getattr(graph, name)(*handed)
+
+
+class Form(unittest.TestCase):
+    def test_names_and_parameters(self):
+        parameters = {
+            "min_moves": ["vertex_count", "target", "count", "edges", "pebbles"],
+            "max_pebbles_at": ["vertex_count", "target", "edges", "pebbles"],
+        }
+        for name, expected in parameters.items():
+            self.assertEqual(list(inspect.signature(getattr(graph, name)).parameters), expected)
+
+    def test_parameters_by_name(self):
+        self.assertEqual(graph.min_moves(pebbles=[4, 0, 0], edges=PATH_3, count=1, target=2, vertex_count=3), [3])
+        self.assertEqual(graph.max_pebbles_at(pebbles=[4, 0, 0], edges=PATH_3, target=1, vertex_count=3), [2])
+
+    def test_answers_are_lists_of_one_int(self):
+        for name, handed, expected in CALLS:
+            answer = called(name, copied(handed))
+            self.assertEqual(answer, expected, (name, handed))
+            self.assertIs(type(answer), list, (name, handed))
+            self.assertEqual([type(number) for number in answer], [int], (name, handed))
+
+    def test_nothing_is_printed(self):
+        out = io.StringIO()
+        with contextlib.redirect_stdout(out), contextlib.redirect_stderr(out):
+            for name, handed, _ in CALLS:
+                called(name, copied(handed))
+        self.assertEqual(out.getvalue(), "")
+
+
+class HandedIn(unittest.TestCase):
+    def test_is_as_it_was_afterwards(self):
+        for name, handed, _ in CALLS:
+            mine = copied(handed)
+            called(name, mine)
+            self.assertEqual(mine, handed, name)
+
+    def test_is_as_it_was_at_every_step(self):
+        for name, handed, _ in CALLS:
+            mine = copied(handed)
+            changed = []
+
+            def look(frame, event, argument):
+                if mine != handed:
+                    changed.append(frame.f_lineno)
+                return look
+
+            before = sys.gettrace()
+            sys.settrace(look)
+            try:
+                called(name, mine)
+            finally:
+                sys.settrace(before)
+            self.assertEqual(changed, [], (name, handed))
+
+    def test_one_list_handed_in_twice(self):
+        shared = [0, 1]
+        self.assertEqual(graph.min_moves(2, 1, 1, shared, shared), [0])
+        self.assertEqual(graph.max_pebbles_at(2, 0, shared, shared), [0])
+        self.assertEqual(shared, [0, 1])
+
+
+class NothingIsKept(unittest.TestCase):
+    def test_an_answer_is_a_new_list(self):
+        for name, handed, expected in CALLS:
+            mine = copied(handed)
+            first = called(name, mine)
+            second = called(name, mine)
+            self.assertIsNot(first, second)
+            for value in mine:
+                self.assertIsNot(first, value)
+            first.append(7)
+            first[0] = 99
+            self.assertEqual(second, expected)
+            self.assertEqual(called(name, mine), expected)
+            self.assertEqual(mine, handed)
+
+    def test_the_same_answer_after_whatever_other_call(self):
+        for earlier, handed_earlier, expected_earlier in CALLS:
+            for name, handed, expected in CALLS:
+                self.assertEqual(called(earlier, copied(handed_earlier)), expected_earlier)
+                self.assertEqual(called(name, copied(handed)), expected, (name, handed, earlier, handed_earlier))
+
+    def test_lists_that_the_caller_changes_between_calls(self):
+        edges = [0, 1, 1, 2]
+        pebbles = [4, 0, 0]
+        self.assertEqual(graph.min_moves(3, 2, 1, edges, pebbles), [3])
+        self.assertEqual(graph.max_pebbles_at(3, 2, edges, pebbles), [1])
+        pebbles[1] = 2
+        self.assertEqual(graph.min_moves(3, 2, 1, edges, pebbles), [1])
+        self.assertEqual(graph.max_pebbles_at(3, 2, edges, pebbles), [2])
+        edges.pop()
+        self.assertEqual(graph.min_moves(3, 2, 1, edges, pebbles), [-22])
+        self.assertEqual(graph.max_pebbles_at(3, 2, edges, pebbles), [-22])
+        edges.pop()
+        self.assertEqual(graph.min_moves(3, 2, 1, edges, pebbles), [-33])
+        self.assertEqual(graph.max_pebbles_at(3, 2, edges, pebbles), [0])
+        edges[1] = 2
+        self.assertEqual(graph.min_moves(3, 2, 1, edges, pebbles), [1])
+        self.assertEqual(graph.max_pebbles_at(3, 2, edges, pebbles), [2])
+
+
+if __name__ == "__main__":
+    unittest.main()

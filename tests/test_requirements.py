@@ -1,0 +1,157 @@
+"""Minimality and monotonicity, held against searches that share nothing with the program."""
+
+import functools
+import itertools
+import unittest
+
+from halvedpebbles.graph import max_pebbles_at, min_moves
+
+LARGER_CASES = [
+    (5, (0, 1, 1, 2, 2, 3, 3, 4), (8, 4, 0, 0, 0)),
+    (5, (0, 1, 1, 2, 2, 3, 3, 4), (5, 0, 1, 1, 4)),
+    (5, (0, 1, 0, 4, 1, 2, 2, 3, 3, 4), (0, 0, 6, 5, 1)),
+    (5, (0, 1, 0, 4, 1, 2, 2, 3, 3, 4), (1, 3, 2, 3, 1)),
+    (5, (0, 1, 0, 2, 0, 3, 0, 4), (0, 3, 3, 3, 3)),
+    (5, (0, 1, 0, 2, 1, 2, 3, 4), (3, 5, 0, 3, 1)),
+    (5, (0, 2, 1, 2, 2, 3, 3, 4), (5, 5, 1, 1, 0)),
+    (5, (0, 1, 0, 2, 0, 3, 0, 4, 1, 2, 1, 3, 1, 4, 2, 3, 2, 4, 3, 4), (0, 3, 3, 3, 3)),
+    (5, (0, 3, 0, 4, 1, 2, 1, 3, 2, 4), (0, 7, 2, 1, 1)),
+    (4, (0, 1, 0, 3, 1, 2, 2, 3), (7, 3, 0, 1)),
+    (4, (0, 1, 0, 2, 1, 2, 2, 3), (9, 2, 1, 0)),
+    (3, (0, 1, 1, 2), (10, 1, 1)),
+    (2, (0, 1), (5, 7)),
+    (1, (), (12,)),
+]
+
+
+def graphs(vertex_count):
+    """Every graph with that many vertices, as a list of endpoints in order."""
+    pairs = list(itertools.combinations(range(vertex_count), 2))
+    for size in range(len(pairs) + 1):
+        for chosen in itertools.combinations(pairs, size):
+            yield [vertex for pair in chosen for vertex in pair]
+
+
+def configurations(vertex_count, most):
+    """Every configuration with at most that many pebbles."""
+    for pebbles in itertools.product(range(most + 1), repeat=vertex_count):
+        if sum(pebbles) <= most:
+            yield list(pebbles)
+
+
+def directions(edges):
+    pairs = list(zip(edges[0::2], edges[1::2]))
+    return pairs + [(v, u) for u, v in pairs]
+
+
+def moved(pebbles, source, destination):
+    after = list(pebbles)
+    after[source] -= 2
+    after[destination] += 1
+    return tuple(after)
+
+
+def ends_of_all_sequences(edges, pebbles, length=0):
+    """Every sequence of moves, one by one: its length and the configuration at its end."""
+    yield length, tuple(pebbles)
+    for source, destination in directions(edges):
+        if pebbles[source] >= 2:
+            yield from ends_of_all_sequences(edges, moved(pebbles, source, destination), length + 1)
+
+
+def fewest_by_plain_search(vertex_count, edges, pebbles):
+    """For each target, for each number of pebbles that it can have, the fewest moves."""
+    fewest = [{} for _ in range(vertex_count)]
+    for length, end in ends_of_all_sequences(edges, pebbles):
+        for target in range(vertex_count):
+            for count in range(end[target] + 1):
+                fewest[target][count] = min(length, fewest[target].get(count, length))
+    return fewest
+
+
+@functools.lru_cache(maxsize=None)
+def fewest_moves(edges, pebbles, target, count):
+    """The fewest moves that bring count pebbles to the target, or None."""
+    if pebbles[target] >= count:
+        return 0
+    rest = [
+        fewest_moves(edges, moved(pebbles, source, destination), target, count)
+        for source, destination in directions(edges)
+        if pebbles[source] >= 2
+    ]
+    return min([1 + moves for moves in rest if moves is not None], default=None)
+
+
+class Minimality(unittest.TestCase):
+    def held_against_plain_search(self, vertex_count, edges, pebbles):
+        fewest = fewest_by_plain_search(vertex_count, edges, pebbles)
+        for target in range(vertex_count):
+            where = (vertex_count, target, edges, pebbles)
+            most = max(fewest[target])
+            self.assertEqual(max_pebbles_at(vertex_count, target, edges, pebbles), [most], where)
+            for count in range(most + 1):
+                expected = [fewest[target][count]]
+                self.assertEqual(min_moves(vertex_count, target, count, edges, pebbles), expected, (where, count))
+            self.assertEqual(min_moves(vertex_count, target, most + 1, edges, pebbles), [-33], where)
+
+    def test_every_small_input(self):
+        for vertex_count, most in ((1, 6), (2, 6), (3, 5), (4, 4)):
+            for edges in graphs(vertex_count):
+                for pebbles in configurations(vertex_count, most):
+                    self.held_against_plain_search(vertex_count, edges, pebbles)
+
+    def test_five_vertices(self):
+        for edges in ([0, 1, 0, 4, 1, 2, 2, 3, 3, 4], [0, 1, 1, 2, 2, 3, 3, 4], [0, 4, 1, 2, 1, 4, 2, 3]):
+            for pebbles in configurations(5, 4):
+                self.held_against_plain_search(5, edges, pebbles)
+
+    def test_larger_inputs(self):
+        for vertex_count, edges, pebbles in LARGER_CASES:
+            for target in range(vertex_count):
+                most = 0
+                for count in range(14):
+                    moves = fewest_moves(edges, pebbles, target, count)
+                    expected = [-33] if moves is None else [moves]
+                    answer = min_moves(vertex_count, target, count, list(edges), list(pebbles))
+                    self.assertEqual(answer, expected, (edges, pebbles, target, count))
+                    most = most if moves is None else count
+                answer = max_pebbles_at(vertex_count, target, list(edges), list(pebbles))
+                self.assertEqual(answer, [most], (edges, pebbles, target))
+
+
+class Monotonicity(unittest.TestCase):
+    def one_more_never_harms(self, vertex_count, edges, pebbles):
+        for target in range(vertex_count):
+            before = max_pebbles_at(vertex_count, target, edges, pebbles)[0]
+            self.assertGreaterEqual(before, 0)
+            for place in range(vertex_count):
+                more = list(pebbles)
+                more[place] += 1
+                after = max_pebbles_at(vertex_count, target, edges, more)[0]
+                self.assertGreaterEqual(after, before, (vertex_count, target, edges, pebbles, place))
+
+    def test_another_pebble_at_small_inputs(self):
+        for vertex_count, most in ((1, 11), (2, 11), (3, 5), (4, 2)):
+            for edges in graphs(vertex_count):
+                for pebbles in configurations(vertex_count, most):
+                    self.one_more_never_harms(vertex_count, edges, pebbles)
+
+    def test_another_pebble_up_to_the_limit(self):
+        for vertex_count, edges, pebbles in LARGER_CASES:
+            for place in range(vertex_count):
+                if pebbles[place] > 0:
+                    fewer = list(pebbles)
+                    fewer[place] -= 1
+                    self.one_more_never_harms(vertex_count, list(edges), fewer)
+
+    def test_every_move_costs_one_pebble(self):
+        for vertex_count, edges, pebbles in LARGER_CASES:
+            for target in range(vertex_count):
+                most = max_pebbles_at(vertex_count, target, list(edges), list(pebbles))[0]
+                moves = min_moves(vertex_count, target, most, list(edges), list(pebbles))[0]
+                self.assertGreaterEqual(moves, most - pebbles[target])
+                self.assertLessEqual(moves, sum(pebbles) - most)
+
+
+if __name__ == "__main__":
+    unittest.main()
