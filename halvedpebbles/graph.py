@@ -50,12 +50,12 @@ def target_error(vertex_count, target, edges, pebbles):
 
 
 def moves_along(edges):
-    """List the moves along every edge, both ways, each as source and destination."""
+    """List the moves along every edge, both ways, in order of source and then of target."""
     moves = []
     for k in range(0, len(edges), 2):
         moves.append((edges[k], edges[k + 1]))
         moves.append((edges[k + 1], edges[k]))
-    return moves
+    return sorted(moves)
 
 
 def after_move(configuration, move):
@@ -67,38 +67,63 @@ def after_move(configuration, move):
 
 
 def next_level(level, moves):
-    """List the different configurations that one more move leads to.
+    """Answer the level that is one move further on.
+
+    A level is a dict: each of its configurations, with the lexicographically first of the
+    sequences of moves that lead to it, sources and targets in one row. If the configurations
+    stand in the order of these sequences and the moves in order, too, each configuration is
+    found by way of its first sequence first, so the next level stands in that order again.
 
     Every move takes one pebble off the graph, so a configuration cannot come up again
     at a later level, and after at most as many levels as there are pebbles none is left.
     """
     found = {}
-    for configuration in level:
+    for configuration, sequence in level.items():
         for move in moves:
             if configuration[move[0]] >= 2:
-                found[after_move(configuration, move)] = True
-    return list(found)
+                found.setdefault(after_move(configuration, move), sequence + move)
+    return found
 
 
-def most_at(level, target):
-    """Answer the largest number of pebbles on the target in a level that is not empty."""
-    return max([configuration[target] for configuration in level])
+def nonempty_levels(edges, pebbles):
+    """List the levels that hold a configuration, level 0 first."""
+    moves = moves_along(edges)
+    level = {tuple(pebbles): ()}
+    levels = []
+    while len(level) > 0:
+        levels.append(level)
+        level = next_level(level, moves)
+    return levels
+
+
+def most_at(levels, vertex):
+    """Answer the largest number of pebbles on the vertex in any of the levels."""
+    most = 0
+    for level in levels:
+        for configuration in level:
+            most = max(most, configuration[vertex])
+    return most
+
+
+def first_shortest(target, count, edges, pebbles):
+    """Answer the first of the shortest sequences that bring count pebbles to the target.
+
+    The answer is None if there is none.
+    """
+    moves = moves_along(edges)
+    level = {tuple(pebbles): ()}
+    while len(level) > 0:
+        for configuration, sequence in level.items():
+            if configuration[target] >= count:
+                return sequence
+        level = next_level(level, moves)
+    return None
 
 
 def min_moves(vertex_count, target, count, edges, pebbles):
     """Answer the smallest number of moves after which the target has count pebbles."""
-    error = target_error(vertex_count, target, edges, pebbles)
-    if error != 0:
-        return [error]
-    moves = moves_along(edges)
-    level = [tuple(pebbles)]
-    move_count = 0
-    while len(level) > 0:
-        if most_at(level, target) >= count:
-            return [move_count]
-        level = next_level(level, moves)
-        move_count = move_count + 1
-    return [-33]
+    # The errors of both operations are the same, and the number of moves is answered first there.
+    return shortest_sequence(vertex_count, target, count, edges, pebbles)[:1]
 
 
 def max_pebbles_at(vertex_count, target, edges, pebbles):
@@ -106,10 +131,25 @@ def max_pebbles_at(vertex_count, target, edges, pebbles):
     error = target_error(vertex_count, target, edges, pebbles)
     if error != 0:
         return [error]
-    moves = moves_along(edges)
-    level = [tuple(pebbles)]
-    most = 0
-    while len(level) > 0:
-        most = max(most, most_at(level, target))
-        level = next_level(level, moves)
-    return [most]
+    return [most_at(nonempty_levels(edges, pebbles), target)]
+
+
+def shortest_sequence(vertex_count, target, count, edges, pebbles):
+    """Answer the result of min_moves, then the first sequence of that many moves to the goal."""
+    error = target_error(vertex_count, target, edges, pebbles)
+    if error != 0:
+        return [error]
+    sequence = first_shortest(target, count, edges, pebbles)
+    if sequence is None:
+        return [-33]
+    return [len(sequence) // 2] + list(sequence)
+
+
+def reachable_vertices(vertex_count, edges, pebbles):
+    """Answer how many vertices some sequence of moves puts a pebble on, then these vertices."""
+    error = limits_error(vertex_count, edges, pebbles)
+    if error != 0:
+        return [error]
+    levels = nonempty_levels(edges, pebbles)
+    vertices = [vertex for vertex in range(vertex_count) if most_at(levels, vertex) > 0]
+    return [len(vertices)] + vertices

@@ -35,6 +35,25 @@ CALLS = [
     ("max_pebbles_at", (3, 2, [1, 0], [4, 0, 0]), [-22]),
     ("max_pebbles_at", (3, 2, PATH_3, [13, 0, 0]), [-22]),
     ("max_pebbles_at", (4, 2, CYCLE_4, [4, 3, 0, 3]), [4]),
+    ("shortest_sequence", (3, 2, 1, PATH_3, [4, 0, 0]), [3, 0, 1, 0, 1, 1, 2]),
+    ("shortest_sequence", (3, 2, 1, PATH_3, [3, 0, 0]), [-33]),
+    ("shortest_sequence", (3, 2, 0, PATH_3, [0, 0, 0]), [0]),
+    ("shortest_sequence", (3, 0, 4, PATH_3, [4, 0, 0]), [0]),
+    ("shortest_sequence", (3, 2, 1, PATH_3, [0, 2, 0]), [1, 1, 2]),
+    ("shortest_sequence", (3, 2, 1, [0, 2], [4, 0, 0]), [1, 0, 2]),
+    ("shortest_sequence", (3, 1, 2, PATH_3, [4, 0, 0]), [2, 0, 1, 0, 1]),
+    ("shortest_sequence", (3, 3, 1, PATH_3, [4, 0, 0]), [-2]),
+    ("shortest_sequence", (3, 2, 1, [0, 1, 1], [4, 0, 0]), [-22]),
+    ("shortest_sequence", (3, 2, 1, PATH_3, [4, 0]), [-22]),
+    ("shortest_sequence", (4, 2, 4, CYCLE_4, [4, 3, 0, 3]), [6, 0, 1, 0, 3, 1, 2, 1, 2, 3, 2, 3, 2]),
+    ("reachable_vertices", (3, PATH_3, [4, 0, 0]), [3, 0, 1, 2]),
+    ("reachable_vertices", (3, PATH_3, [3, 0, 0]), [2, 0, 1]),
+    ("reachable_vertices", (3, PATH_3, [0, 0, 0]), [0]),
+    ("reachable_vertices", (3, [0, 2], [4, 0, 0]), [2, 0, 2]),
+    ("reachable_vertices", (3, [0, 1], [4, 0, 1]), [3, 0, 1, 2]),
+    ("reachable_vertices", (3, [1, 0], [4, 0, 0]), [-22]),
+    ("reachable_vertices", (3, PATH_3, [13, 0, 0]), [-22]),
+    ("reachable_vertices", (4, CYCLE_4, [3, 0, 0, 0]), [3, 0, 1, 3]),
 ]
 
 
@@ -51,6 +70,8 @@ class Form(unittest.TestCase):
         parameters = {
             "min_moves": ["vertex_count", "target", "count", "edges", "pebbles"],
             "max_pebbles_at": ["vertex_count", "target", "edges", "pebbles"],
+            "shortest_sequence": ["vertex_count", "target", "count", "edges", "pebbles"],
+            "reachable_vertices": ["vertex_count", "edges", "pebbles"],
         }
         for name, expected in parameters.items():
             self.assertEqual(list(inspect.signature(getattr(graph, name)).parameters), expected)
@@ -58,13 +79,16 @@ class Form(unittest.TestCase):
     def test_parameters_by_name(self):
         self.assertEqual(graph.min_moves(pebbles=[4, 0, 0], edges=PATH_3, count=1, target=2, vertex_count=3), [3])
         self.assertEqual(graph.max_pebbles_at(pebbles=[4, 0, 0], edges=PATH_3, target=1, vertex_count=3), [2])
+        answer = graph.shortest_sequence(pebbles=[4, 0, 0], edges=PATH_3, count=2, target=1, vertex_count=3)
+        self.assertEqual(answer, [2, 0, 1, 0, 1])
+        self.assertEqual(graph.reachable_vertices(pebbles=[2, 0, 0], edges=PATH_3, vertex_count=3), [2, 0, 1])
 
-    def test_answers_are_lists_of_one_int(self):
+    def test_answers_are_flat_lists_of_ints(self):
         for name, handed, expected in CALLS:
             answer = called(name, copied(handed))
             self.assertEqual(answer, expected, (name, handed))
             self.assertIs(type(answer), list, (name, handed))
-            self.assertEqual([type(number) for number in answer], [int], (name, handed))
+            self.assertEqual({type(number) for number in answer}, {int}, (name, handed))
 
     def test_nothing_is_printed(self):
         out = io.StringIO()
@@ -103,6 +127,8 @@ class HandedIn(unittest.TestCase):
         shared = [0, 1]
         self.assertEqual(graph.min_moves(2, 1, 1, shared, shared), [0])
         self.assertEqual(graph.max_pebbles_at(2, 0, shared, shared), [0])
+        self.assertEqual(graph.shortest_sequence(2, 1, 1, shared, shared), [0])
+        self.assertEqual(graph.reachable_vertices(2, shared, shared), [1, 1])
         self.assertEqual(shared, [0, 1])
 
 
@@ -130,20 +156,24 @@ class NothingIsKept(unittest.TestCase):
     def test_lists_that_the_caller_changes_between_calls(self):
         edges = [0, 1, 1, 2]
         pebbles = [4, 0, 0]
-        self.assertEqual(graph.min_moves(3, 2, 1, edges, pebbles), [3])
-        self.assertEqual(graph.max_pebbles_at(3, 2, edges, pebbles), [1])
+
+        def answers():
+            return [
+                graph.min_moves(3, 2, 1, edges, pebbles),
+                graph.max_pebbles_at(3, 2, edges, pebbles),
+                graph.shortest_sequence(3, 2, 1, edges, pebbles),
+                graph.reachable_vertices(3, edges, pebbles),
+            ]
+
+        self.assertEqual(answers(), [[3], [1], [3, 0, 1, 0, 1, 1, 2], [3, 0, 1, 2]])
         pebbles[1] = 2
-        self.assertEqual(graph.min_moves(3, 2, 1, edges, pebbles), [1])
-        self.assertEqual(graph.max_pebbles_at(3, 2, edges, pebbles), [2])
+        self.assertEqual(answers(), [[1], [2], [1, 1, 2], [3, 0, 1, 2]])
         edges.pop()
-        self.assertEqual(graph.min_moves(3, 2, 1, edges, pebbles), [-22])
-        self.assertEqual(graph.max_pebbles_at(3, 2, edges, pebbles), [-22])
+        self.assertEqual(answers(), [[-22], [-22], [-22], [-22]])
         edges.pop()
-        self.assertEqual(graph.min_moves(3, 2, 1, edges, pebbles), [-33])
-        self.assertEqual(graph.max_pebbles_at(3, 2, edges, pebbles), [0])
+        self.assertEqual(answers(), [[-33], [0], [-33], [2, 0, 1]])
         edges[1] = 2
-        self.assertEqual(graph.min_moves(3, 2, 1, edges, pebbles), [1])
-        self.assertEqual(graph.max_pebbles_at(3, 2, edges, pebbles), [2])
+        self.assertEqual(answers(), [[1], [2], [1, 0, 2], [3, 0, 1, 2]])
 
 
 if __name__ == "__main__":

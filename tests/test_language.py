@@ -38,6 +38,8 @@ UNUSED_WORDS = re.compile(
     r"\b(type|typing|typing_extensions|enum|Enum|IntEnum|StrEnum|Flag|IntFlag|Generic|Protocol|ABC|ABCMeta"
     r"|namedtuple|NamedTuple|TypedDict|TYPE_CHECKING|abstractmethod)\b|dataclass|overload|contextmanager"
 )
+WALKED_AT_ONCE = ("zip", "enumerate", "reversed", "range", "items", "keys", "values")
+WALKERS = ("list", "tuple", "dict", "sorted", "sum", "any", "all", "enumerate", "zip", "min", "max", "join")
 PLAIN_NAME = re.compile(r"[A-Za-z][A-Za-z0-9_]*|__[a-z]+__")
 
 
@@ -51,6 +53,20 @@ def trees():
 
 def nodes():
     return [(name, node) for name, tree in trees() for node in ast.walk(tree)]
+
+
+def called_name(call):
+    """The name behind the last dot of what a call calls."""
+    return call.func.attr if isinstance(call.func, ast.Attribute) else getattr(call.func, "id", "")
+
+
+def walked(tree):
+    """The values that are walked on the spot, by a loop or as the first thing in a call."""
+    found = [node.iter for node in ast.walk(tree) if isinstance(node, (ast.For, ast.comprehension))]
+    for node in ast.walk(tree):
+        if isinstance(node, ast.Call) and called_name(node) in WALKERS:
+            found.extend(node.args[:1])
+    return found
 
 
 def bound_names(node):
@@ -149,6 +165,13 @@ class Parts(unittest.TestCase):
                 for operator, right in zip(node.ops, node.comparators):
                     if isinstance(operator, (ast.Is, ast.IsNot)):
                         self.assertIn(ast.dump(right), [ast.dump(ast.Constant(v)) for v in (None, True, False)], where)
+
+    def test_what_is_walked_at_once(self):
+        for name, tree in trees():
+            on_the_spot = walked(tree)
+            for node in ast.walk(tree):
+                if isinstance(node, ast.Call) and called_name(node) in WALKED_AT_ONCE:
+                    self.assertIn(node, on_the_spot, (name, node.lineno))
 
 
 class Names(unittest.TestCase):

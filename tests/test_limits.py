@@ -2,7 +2,7 @@
 
 import unittest
 
-from halvedpebbles.graph import max_pebbles_at, min_moves
+from halvedpebbles.graph import max_pebbles_at, min_moves, reachable_vertices, shortest_sequence
 
 BIGGEST = 4294967295
 COMPLETE_5 = [0, 1, 0, 2, 0, 3, 0, 4, 1, 2, 1, 3, 1, 4, 2, 3, 2, 4, 3, 4]
@@ -92,85 +92,120 @@ BAD_PEBBLES = [
 BAD_GRAPHS_AND_CONFIGURATIONS = BAD_VERTEX_COUNTS + BAD_EDGES + BAD_PEBBLES
 
 
-class OutsideTheLimits(unittest.TestCase):
-    def refused(self, rows):
+# What counts are handed in where no count may make a difference.
+COUNTS = (0, 1, 2, 13, BIGGEST)
+
+
+def answers_with_target(vertex_count, target, edges, pebbles):
+    """What every operation that names a target answers, with one count after the other."""
+    answers = [max_pebbles_at(vertex_count, target, edges, pebbles)]
+    for count in COUNTS:
+        answers.append(min_moves(vertex_count, target, count, edges, pebbles))
+        answers.append(shortest_sequence(vertex_count, target, count, edges, pebbles))
+    return answers
+
+
+class Refusals(unittest.TestCase):
+    def refused(self, error, vertex_count, target, edges, pebbles):
+        with self.subTest(vertex_count=vertex_count, target=target, edges=edges, pebbles=pebbles):
+            for answer in answers_with_target(vertex_count, target, edges, pebbles):
+                self.assertEqual(answer, [error])
+
+
+class OutsideTheLimits(Refusals):
+    def outside(self, rows):
         for vertex_count, edges, pebbles in rows:
+            self.refused(-22, vertex_count, 0, edges, pebbles)
             with self.subTest(vertex_count=vertex_count, edges=edges, pebbles=pebbles):
-                for count in (0, 1, BIGGEST):
-                    self.assertEqual(min_moves(vertex_count, 0, count, edges, pebbles), [-22])
-                self.assertEqual(max_pebbles_at(vertex_count, 0, edges, pebbles), [-22])
+                self.assertEqual(reachable_vertices(vertex_count, edges, pebbles), [-22])
 
     def test_vertex_count(self):
-        self.refused(BAD_VERTEX_COUNTS)
+        self.outside(BAD_VERTEX_COUNTS)
 
     def test_vertex_count_far_outside(self):
         counts = (8, 255, 256, 257, 65537, 2147483648, BIGGEST - 1, BIGGEST)
-        self.refused([(count, [0, 1], [4, 0, 0, 0, 0, 0, 0]) for count in counts])
+        self.outside([(count, [0, 1], [4, 0, 0, 0, 0, 0, 0]) for count in counts])
 
     def test_edges(self):
-        self.refused(BAD_EDGES)
+        self.outside(BAD_EDGES)
 
     def test_pebbles(self):
-        self.refused(BAD_PEBBLES)
+        self.outside(BAD_PEBBLES)
+
+    def test_several_faults(self):
+        self.outside([
+            (0, [0], [13]),
+            (6, [1, 0, 3], []),
+            (2, [0, 1, 1], [1]),
+            (2, [0, 1, 0, 1], [12, 1]),
+            (BIGGEST, [BIGGEST], [BIGGEST]),
+        ])
 
 
 class WithinTheLimits(unittest.TestCase):
     def test_smallest_and_largest_vertex_count(self):
         self.assertEqual(min_moves(1, 0, 1, [], [1]), [0])
         self.assertEqual(max_pebbles_at(1, 0, [], [1]), [1])
+        self.assertEqual(shortest_sequence(1, 0, 1, [], [1]), [0])
+        self.assertEqual(reachable_vertices(1, [], [1]), [1, 0])
         self.assertEqual(min_moves(5, 4, 1, COMPLETE_5, [2, 0, 0, 0, 0]), [1])
         self.assertEqual(max_pebbles_at(5, 4, COMPLETE_5, [2, 0, 0, 0, 0]), [1])
+        self.assertEqual(shortest_sequence(5, 4, 1, COMPLETE_5, [2, 0, 0, 0, 0]), [1, 0, 4])
+        self.assertEqual(reachable_vertices(5, COMPLETE_5, [2, 0, 0, 0, 0]), [5, 0, 1, 2, 3, 4])
 
     def test_twelve_pebbles(self):
         self.assertEqual(min_moves(5, 4, 1, COMPLETE_5, [3, 3, 3, 3, 0]), [1])
         self.assertEqual(max_pebbles_at(5, 4, COMPLETE_5, [12, 0, 0, 0, 0]), [6])
         self.assertEqual(max_pebbles_at(5, 4, [], [0, 0, 0, 0, 12]), [12])
+        self.assertEqual(shortest_sequence(5, 4, 1, COMPLETE_5, [3, 3, 3, 3, 0]), [1, 0, 4])
+        self.assertEqual(shortest_sequence(5, 4, 6, COMPLETE_5, [12, 0, 0, 0, 0]), [6] + [0, 4] * 6)
+        self.assertEqual(reachable_vertices(5, COMPLETE_5, [3, 3, 3, 3, 0]), [5, 0, 1, 2, 3, 4])
+        self.assertEqual(reachable_vertices(5, [], [0, 0, 0, 0, 12]), [1, 4])
 
     def test_second_endpoints_may_fall_where_the_first_ones_rise(self):
         self.assertEqual(min_moves(4, 3, 1, [0, 3, 1, 2], [2, 0, 0, 0]), [1])
         self.assertEqual(max_pebbles_at(4, 1, [0, 3, 1, 2], [0, 0, 4, 0]), [2])
         self.assertEqual(max_pebbles_at(5, 3, [0, 4, 1, 3, 2, 3], [0, 4, 4, 0, 0]), [4])
+        self.assertEqual(shortest_sequence(4, 1, 1, [0, 3, 1, 2], [2, 0, 2, 0]), [1, 2, 1])
+        self.assertEqual(reachable_vertices(4, [0, 3, 1, 2], [2, 0, 0, 0]), [2, 0, 3])
 
     def test_the_first_edge_need_not_touch_vertex_0(self):
         self.assertEqual(max_pebbles_at(5, 4, [3, 4], [0, 0, 0, 2, 0]), [1])
+        self.assertEqual(shortest_sequence(5, 4, 1, [3, 4], [0, 0, 0, 2, 0]), [1, 3, 4])
+        self.assertEqual(reachable_vertices(5, [3, 4], [0, 0, 0, 2, 0]), [2, 3, 4])
 
 
-class Targets(unittest.TestCase):
+class Targets(Refusals):
     def test_last_vertex_and_one_more(self):
         for vertex_count in range(1, 6):
             pebbles = [2] * vertex_count
             last = vertex_count - 1
             self.assertEqual(min_moves(vertex_count, last, 2, [], pebbles), [0])
             self.assertEqual(max_pebbles_at(vertex_count, last, [], pebbles), [2])
-            self.assertEqual(min_moves(vertex_count, vertex_count, 2, [], pebbles), [-2])
-            self.assertEqual(max_pebbles_at(vertex_count, vertex_count, [], pebbles), [-2])
+            self.assertEqual(shortest_sequence(vertex_count, last, 2, [], pebbles), [0])
+            self.refused(-2, vertex_count, vertex_count, [], pebbles)
 
     def test_far_outside(self):
         for target in (5, 12, 255, 256, 65536, 2147483648, BIGGEST - 2, BIGGEST - 1, BIGGEST):
-            self.assertEqual(min_moves(3, target, 1, [0, 1, 1, 2], [4, 0, 0]), [-2])
-            self.assertEqual(max_pebbles_at(3, target, [0, 1, 1, 2], [4, 0, 0]), [-2])
+            self.refused(-2, 3, target, [0, 1, 1, 2], [4, 0, 0])
 
 
-class OrderOfTheChecks(unittest.TestCase):
+class OrderOfTheChecks(Refusals):
     def test_limits_ahead_of_the_target(self):
         for vertex_count, edges, pebbles in BAD_GRAPHS_AND_CONFIGURATIONS:
             for target in (vertex_count, 7, BIGGEST):
-                with self.subTest(vertex_count=vertex_count, edges=edges, pebbles=pebbles, target=target):
-                    for count in (0, 1, BIGGEST):
-                        self.assertEqual(min_moves(vertex_count, target, count, edges, pebbles), [-22])
-                    self.assertEqual(max_pebbles_at(vertex_count, target, edges, pebbles), [-22])
+                self.refused(-22, vertex_count, target, edges, pebbles)
 
     def test_target_ahead_of_the_count(self):
         for target in (3, 4, BIGGEST):
-            for count in (0, 1, 2, 13, BIGGEST):
-                self.assertEqual(min_moves(3, target, count, [0, 1, 1, 2], [4, 0, 0]), [-2])
-                self.assertEqual(min_moves(3, target, count, [], [0, 0, 0]), [-2])
+            self.refused(-2, 3, target, [0, 1, 1, 2], [4, 0, 0])
+            self.refused(-2, 3, target, [], [0, 0, 0])
 
-    def test_several_faults_of_the_limits(self):
-        self.assertEqual(min_moves(0, 0, 0, [0], [13]), [-22])
-        self.assertEqual(max_pebbles_at(6, 6, [1, 0, 3], []), [-22])
-        self.assertEqual(min_moves(2, 2, 9, [0, 1, 1], [1]), [-22])
-        self.assertEqual(max_pebbles_at(2, 2, [0, 1, 0, 1], [12, 1]), [-22])
+    def test_several_faults_of_the_limits_and_the_target(self):
+        self.refused(-22, 0, 0, [0], [13])
+        self.refused(-22, 6, 6, [1, 0, 3], [])
+        self.refused(-22, 2, 2, [0, 1, 1], [1])
+        self.refused(-22, 2, 2, [0, 1, 0, 1], [12, 1])
 
 
 if __name__ == "__main__":

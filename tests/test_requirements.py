@@ -1,10 +1,10 @@
-"""Minimality and monotonicity, held against searches that share nothing with the program."""
+"""The requirements, and answers held against searches that share nothing with the program."""
 
 import functools
 import itertools
 import unittest
 
-from halvedpebbles.graph import max_pebbles_at, min_moves
+from halvedpebbles.graph import max_pebbles_at, min_moves, reachable_vertices, shortest_sequence
 
 LARGER_CASES = [
     (5, (0, 1, 1, 2, 2, 3, 3, 4), (8, 4, 0, 0, 0)),
@@ -16,6 +16,9 @@ LARGER_CASES = [
     (5, (0, 2, 1, 2, 2, 3, 3, 4), (5, 5, 1, 1, 0)),
     (5, (0, 1, 0, 2, 0, 3, 0, 4, 1, 2, 1, 3, 1, 4, 2, 3, 2, 4, 3, 4), (0, 3, 3, 3, 3)),
     (5, (0, 3, 0, 4, 1, 2, 1, 3, 2, 4), (0, 7, 2, 1, 1)),
+    (5, (0, 3, 0, 4, 1, 2, 2, 3, 2, 4), (1, 3, 1, 1, 2)),
+    (5, (0, 1, 0, 3, 0, 4, 1, 2, 1, 3, 1, 4), (1, 3, 2, 0, 2)),
+    (5, (0, 2, 0, 3, 0, 4, 1, 2, 1, 4, 3, 4), (0, 3, 3, 3, 0)),
     (4, (0, 1, 0, 3, 1, 2, 2, 3), (7, 3, 0, 1)),
     (4, (0, 1, 0, 2, 1, 2, 2, 3), (9, 2, 1, 0)),
     (3, (0, 1, 1, 2), (10, 1, 1)),
@@ -51,48 +54,63 @@ def moved(pebbles, source, destination):
     return tuple(after)
 
 
-def ends_of_all_sequences(edges, pebbles, length=0):
-    """Every sequence of moves, one by one: its length and the configuration at its end."""
-    yield length, tuple(pebbles)
-    for source, destination in directions(edges):
-        if pebbles[source] >= 2:
-            yield from ends_of_all_sequences(edges, moved(pebbles, source, destination), length + 1)
+def all_sequences(edges, pebbles, done=()):
+    """Every sequence of moves, one by one, with the configuration at its end."""
+    yield done, tuple(pebbles)
+    for move in directions(edges):
+        if pebbles[move[0]] >= 2:
+            yield from all_sequences(edges, moved(pebbles, *move), done + (move,))
 
 
-def fewest_by_plain_search(vertex_count, edges, pebbles):
-    """For each target, for each number of pebbles that it can have, the fewest moves."""
-    fewest = [{} for _ in range(vertex_count)]
-    for length, end in ends_of_all_sequences(edges, pebbles):
+def by_length_and_order(sequence):
+    return (len(sequence), sequence)
+
+
+def best_by_plain_search(vertex_count, edges, pebbles):
+    """For each target, for each number of pebbles that it can have, the first shortest sequence."""
+    best = [{} for _ in range(vertex_count)]
+    for sequence, end in all_sequences(edges, pebbles):
         for target in range(vertex_count):
             for count in range(end[target] + 1):
-                fewest[target][count] = min(length, fewest[target].get(count, length))
-    return fewest
+                so_far = best[target].get(count, sequence)
+                best[target][count] = min(so_far, sequence, key=by_length_and_order)
+    return best
 
 
 @functools.lru_cache(maxsize=None)
-def fewest_moves(edges, pebbles, target, count):
-    """The fewest moves that bring count pebbles to the target, or None."""
+def best_sequence(edges, pebbles, target, count):
+    """The first shortest sequence that brings count pebbles to the target, or None."""
     if pebbles[target] >= count:
-        return 0
-    rest = [
-        fewest_moves(edges, moved(pebbles, source, destination), target, count)
-        for source, destination in directions(edges)
-        if pebbles[source] >= 2
+        return ()
+    rests = [
+        (move, best_sequence(edges, moved(pebbles, *move), target, count))
+        for move in directions(edges)
+        if pebbles[move[0]] >= 2
     ]
-    return min([1 + moves for moves in rest if moves is not None], default=None)
+    return min([(move,) + rest for move, rest in rests if rest is not None], key=by_length_and_order, default=None)
+
+
+def in_one_row(sequence):
+    return [len(sequence)] + [vertex for move in sequence for vertex in move]
 
 
 class Minimality(unittest.TestCase):
     def held_against_plain_search(self, vertex_count, edges, pebbles):
-        fewest = fewest_by_plain_search(vertex_count, edges, pebbles)
+        best = best_by_plain_search(vertex_count, edges, pebbles)
         for target in range(vertex_count):
             where = (vertex_count, target, edges, pebbles)
-            most = max(fewest[target])
+            most = max(best[target])
             self.assertEqual(max_pebbles_at(vertex_count, target, edges, pebbles), [most], where)
             for count in range(most + 1):
-                expected = [fewest[target][count]]
-                self.assertEqual(min_moves(vertex_count, target, count, edges, pebbles), expected, (where, count))
+                expected = in_one_row(best[target][count])
+                self.assertEqual(min_moves(vertex_count, target, count, edges, pebbles), expected[:1], (where, count))
+                answer = shortest_sequence(vertex_count, target, count, edges, pebbles)
+                self.assertEqual(answer, expected, (where, count))
             self.assertEqual(min_moves(vertex_count, target, most + 1, edges, pebbles), [-33], where)
+            self.assertEqual(shortest_sequence(vertex_count, target, most + 1, edges, pebbles), [-33], where)
+        vertices = [vertex for vertex in range(vertex_count) if 1 in best[vertex]]
+        answer = reachable_vertices(vertex_count, edges, pebbles)
+        self.assertEqual(answer, [len(vertices)] + vertices, (vertex_count, edges, pebbles))
 
     def test_every_small_input(self):
         for vertex_count, most in ((1, 6), (2, 6), (3, 5), (4, 4)):
@@ -107,16 +125,55 @@ class Minimality(unittest.TestCase):
 
     def test_larger_inputs(self):
         for vertex_count, edges, pebbles in LARGER_CASES:
+            handed = (list(edges), list(pebbles))
+            vertices = []
             for target in range(vertex_count):
                 most = 0
                 for count in range(14):
-                    moves = fewest_moves(edges, pebbles, target, count)
-                    expected = [-33] if moves is None else [moves]
-                    answer = min_moves(vertex_count, target, count, list(edges), list(pebbles))
-                    self.assertEqual(answer, expected, (edges, pebbles, target, count))
-                    most = most if moves is None else count
-                answer = max_pebbles_at(vertex_count, target, list(edges), list(pebbles))
-                self.assertEqual(answer, [most], (edges, pebbles, target))
+                    where = (edges, pebbles, target, count)
+                    best = best_sequence(edges, pebbles, target, count)
+                    expected = [-33] if best is None else in_one_row(best)
+                    self.assertEqual(min_moves(vertex_count, target, count, *handed), expected[:1], where)
+                    self.assertEqual(shortest_sequence(vertex_count, target, count, *handed), expected, where)
+                    most = most if best is None else count
+                self.assertEqual(max_pebbles_at(vertex_count, target, *handed), [most], (edges, pebbles, target))
+                if most > 0:
+                    vertices.append(target)
+            self.assertEqual(reachable_vertices(vertex_count, *handed), [len(vertices)] + vertices, (edges, pebbles))
+
+
+class Sequences(unittest.TestCase):
+    def performed(self, vertex_count, target, count, edges, pebbles):
+        """Perform the answered moves one after another, and look where they lead."""
+        where = (vertex_count, target, count, edges, pebbles)
+        answer = shortest_sequence(vertex_count, target, count, edges, pebbles)
+        fewest = min_moves(vertex_count, target, count, edges, pebbles)
+        self.assertEqual(answer[:1], fewest, where)
+        if fewest[0] < 0:
+            return
+        self.assertEqual(len(answer), 1 + 2 * fewest[0], where)
+        now = tuple(pebbles)
+        for move in zip(answer[1::2], answer[2::2]):
+            self.assertLess(now[target], count, where)
+            self.assertIn(move, directions(edges), where)
+            self.assertGreaterEqual(now[move[0]], 2, where)
+            now = moved(now, *move)
+        self.assertGreaterEqual(now[target], count, where)
+        self.assertEqual(sum(now), sum(pebbles) - fewest[0], where)
+
+    def test_every_small_input(self):
+        for vertex_count, most in ((1, 6), (2, 6), (3, 5), (4, 4)):
+            for edges in graphs(vertex_count):
+                for pebbles in configurations(vertex_count, most):
+                    for target in range(vertex_count):
+                        for count in range(4):
+                            self.performed(vertex_count, target, count, edges, pebbles)
+
+    def test_larger_inputs(self):
+        for vertex_count, edges, pebbles in LARGER_CASES:
+            for target in range(vertex_count):
+                for count in range(14):
+                    self.performed(vertex_count, target, count, list(edges), list(pebbles))
 
 
 class Monotonicity(unittest.TestCase):
