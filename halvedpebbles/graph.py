@@ -1,4 +1,4 @@
-"""Graph pebbling: how many pebbles can be brought to a vertex, and with how few moves.
+"""Graph pebbling: how many pebbles can be brought to a vertex, with how few moves, and their weight.
 
 A graph is handed in as one list with the two endpoints of each edge, a configuration as
 the list of the pebbles on each vertex. Every operation answers a new list of whole
@@ -7,6 +7,8 @@ numbers; an error code is the only number of its answer.
 
 MAX_VERTICES = 5
 MAX_PEBBLES = 12
+# No distance is longer than MAX_VERTICES - 1 = 4, so these parts can be halved at every edge.
+PARTS_OF_A_PEBBLE = 16
 
 
 def edges_fit(vertex_count, edges):
@@ -120,6 +122,37 @@ def first_shortest(target, count, edges, pebbles):
     return None
 
 
+def distances_to(target, edges):
+    """Answer a dict: each vertex from which a path leads to the target, with its distance."""
+    moves = moves_along(edges)
+    distances = {target: 0}
+    reached = [target]
+    while len(reached) > 0:
+        further = []
+        for vertex, neighbour in moves:
+            if vertex in reached and neighbour not in distances:
+                distances[neighbour] = distances[vertex] + 1
+                further.append(neighbour)
+        reached = further
+    return distances
+
+
+def weight_in_parts(target, edges, pebbles):
+    """Answer the weight of the configuration at the target, counted in parts of a pebble."""
+    parts = 0
+    for vertex, distance in distances_to(target, edges).items():
+        parts = parts + pebbles[vertex] * (PARTS_OF_A_PEBBLE >> distance)
+    return parts
+
+
+def lowest_terms(numerator, denominator):
+    """Answer the same fraction in lowest terms, if the denominator is a power of two."""
+    while denominator > 1 and numerator % 2 == 0:
+        numerator = numerator // 2
+        denominator = denominator // 2
+    return [numerator, denominator]
+
+
 def min_moves(vertex_count, target, count, edges, pebbles):
     """Answer the smallest number of moves after which the target has count pebbles."""
     # The errors of both operations are the same, and the number of moves is answered first there.
@@ -153,3 +186,20 @@ def reachable_vertices(vertex_count, edges, pebbles):
     levels = nonempty_levels(edges, pebbles)
     vertices = [vertex for vertex in range(vertex_count) if most_at(levels, vertex) > 0]
     return [len(vertices)] + vertices
+
+
+def weight_at(vertex_count, target, edges, pebbles):
+    """Answer 0, then the numerator and the denominator of the weight at the target."""
+    error = target_error(vertex_count, target, edges, pebbles)
+    if error != 0:
+        return [error]
+    return [0] + lowest_terms(weight_in_parts(target, edges, pebbles), PARTS_OF_A_PEBBLE)
+
+
+def count_configurations(vertex_count, edges, pebbles):
+    """Answer the number of nonempty levels, then the number of configurations in all of them."""
+    error = limits_error(vertex_count, edges, pebbles)
+    if error != 0:
+        return [error]
+    levels = nonempty_levels(edges, pebbles)
+    return [len(levels), sum([len(level) for level in levels])]

@@ -54,6 +54,23 @@ CALLS = [
     ("reachable_vertices", (3, [1, 0], [4, 0, 0]), [-22]),
     ("reachable_vertices", (3, PATH_3, [13, 0, 0]), [-22]),
     ("reachable_vertices", (4, CYCLE_4, [3, 0, 0, 0]), [3, 0, 1, 3]),
+    ("weight_at", (3, 2, PATH_3, [4, 0, 0]), [0, 1, 1]),
+    ("weight_at", (3, 2, PATH_3, [3, 0, 0]), [0, 3, 4]),
+    ("weight_at", (3, 2, PATH_3, [0, 0, 0]), [0, 0, 1]),
+    ("weight_at", (3, 2, [0, 2], [4, 0, 0]), [0, 2, 1]),
+    ("weight_at", (3, 2, [0, 1], [4, 0, 0]), [0, 0, 1]),
+    ("weight_at", (3, 0, PATH_3, [4, 0, 0]), [0, 4, 1]),
+    ("weight_at", (3, 3, PATH_3, [4, 0, 0]), [-2]),
+    ("weight_at", (3, 2, [1, 0], [4, 0, 0]), [-22]),
+    ("weight_at", (3, 2, PATH_3, [4, 0]), [-22]),
+    ("weight_at", (4, 2, CYCLE_4, [4, 3, 0, 3]), [0, 4, 1]),
+    ("count_configurations", (3, PATH_3, [4, 0, 0]), [4, 5]),
+    ("count_configurations", (3, PATH_3, [3, 0, 0]), [2, 2]),
+    ("count_configurations", (3, PATH_3, [0, 0, 0]), [1, 1]),
+    ("count_configurations", (3, [0, 2], [4, 0, 0]), [4, 4]),
+    ("count_configurations", (3, [1, 0], [4, 0, 0]), [-22]),
+    ("count_configurations", (3, PATH_3, [13, 0, 0]), [-22]),
+    ("count_configurations", (4, CYCLE_4, [3, 0, 0, 0]), [2, 3]),
 ]
 
 
@@ -72,6 +89,8 @@ class Form(unittest.TestCase):
             "max_pebbles_at": ["vertex_count", "target", "edges", "pebbles"],
             "shortest_sequence": ["vertex_count", "target", "count", "edges", "pebbles"],
             "reachable_vertices": ["vertex_count", "edges", "pebbles"],
+            "weight_at": ["vertex_count", "target", "edges", "pebbles"],
+            "count_configurations": ["vertex_count", "edges", "pebbles"],
         }
         for name, expected in parameters.items():
             self.assertEqual(list(inspect.signature(getattr(graph, name)).parameters), expected)
@@ -82,6 +101,8 @@ class Form(unittest.TestCase):
         answer = graph.shortest_sequence(pebbles=[4, 0, 0], edges=PATH_3, count=2, target=1, vertex_count=3)
         self.assertEqual(answer, [2, 0, 1, 0, 1])
         self.assertEqual(graph.reachable_vertices(pebbles=[2, 0, 0], edges=PATH_3, vertex_count=3), [2, 0, 1])
+        self.assertEqual(graph.weight_at(pebbles=[3, 0, 0], edges=PATH_3, target=2, vertex_count=3), [0, 3, 4])
+        self.assertEqual(graph.count_configurations(pebbles=[4, 0, 0], edges=PATH_3, vertex_count=3), [4, 5])
 
     def test_answers_are_flat_lists_of_ints(self):
         for name, handed, expected in CALLS:
@@ -129,6 +150,8 @@ class HandedIn(unittest.TestCase):
         self.assertEqual(graph.max_pebbles_at(2, 0, shared, shared), [0])
         self.assertEqual(graph.shortest_sequence(2, 1, 1, shared, shared), [0])
         self.assertEqual(graph.reachable_vertices(2, shared, shared), [1, 1])
+        self.assertEqual(graph.weight_at(2, 0, shared, shared), [0, 1, 2])
+        self.assertEqual(graph.count_configurations(2, shared, shared), [1, 1])
         self.assertEqual(shared, [0, 1])
 
 
@@ -163,17 +186,19 @@ class NothingIsKept(unittest.TestCase):
                 graph.max_pebbles_at(3, 2, edges, pebbles),
                 graph.shortest_sequence(3, 2, 1, edges, pebbles),
                 graph.reachable_vertices(3, edges, pebbles),
+                graph.weight_at(3, 2, edges, pebbles),
+                graph.count_configurations(3, edges, pebbles),
             ]
 
-        self.assertEqual(answers(), [[3], [1], [3, 0, 1, 0, 1, 1, 2], [3, 0, 1, 2]])
+        self.assertEqual(answers(), [[3], [1], [3, 0, 1, 0, 1, 1, 2], [3, 0, 1, 2], [0, 1, 1], [4, 5]])
         pebbles[1] = 2
-        self.assertEqual(answers(), [[1], [2], [1, 1, 2], [3, 0, 1, 2]])
+        self.assertEqual(answers(), [[1], [2], [1, 1, 2], [3, 0, 1, 2], [0, 2, 1], [6, 13]])
         edges.pop()
-        self.assertEqual(answers(), [[-22], [-22], [-22], [-22]])
+        self.assertEqual(answers(), [[-22]] * 6)
         edges.pop()
-        self.assertEqual(answers(), [[-33], [0], [-33], [2, 0, 1]])
+        self.assertEqual(answers(), [[-33], [0], [-33], [2, 0, 1], [0, 0, 1], [6, 8]])
         edges[1] = 2
-        self.assertEqual(answers(), [[1], [2], [1, 0, 2], [3, 0, 1, 2]])
+        self.assertEqual(answers(), [[1], [2], [1, 0, 2], [3, 0, 1, 2], [0, 2, 1], [4, 4]])
 
 
 if __name__ == "__main__":

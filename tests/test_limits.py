@@ -2,7 +2,9 @@
 
 import unittest
 
-from halvedpebbles.graph import max_pebbles_at, min_moves, reachable_vertices, shortest_sequence
+from halvedpebbles.graph import (
+    count_configurations, max_pebbles_at, min_moves, reachable_vertices, shortest_sequence, weight_at,
+)
 
 BIGGEST = 4294967295
 COMPLETE_5 = [0, 1, 0, 2, 0, 3, 0, 4, 1, 2, 1, 3, 1, 4, 2, 3, 2, 4, 3, 4]
@@ -98,11 +100,22 @@ COUNTS = (0, 1, 2, 13, BIGGEST)
 
 def answers_with_target(vertex_count, target, edges, pebbles):
     """What every operation that names a target answers, with one count after the other."""
-    answers = [max_pebbles_at(vertex_count, target, edges, pebbles)]
+    answers = [
+        max_pebbles_at(vertex_count, target, edges, pebbles),
+        weight_at(vertex_count, target, edges, pebbles),
+    ]
     for count in COUNTS:
         answers.append(min_moves(vertex_count, target, count, edges, pebbles))
         answers.append(shortest_sequence(vertex_count, target, count, edges, pebbles))
     return answers
+
+
+def answers_without_target(vertex_count, edges, pebbles):
+    """What every operation that names no target answers."""
+    return [
+        reachable_vertices(vertex_count, edges, pebbles),
+        count_configurations(vertex_count, edges, pebbles),
+    ]
 
 
 class Refusals(unittest.TestCase):
@@ -117,7 +130,8 @@ class OutsideTheLimits(Refusals):
         for vertex_count, edges, pebbles in rows:
             self.refused(-22, vertex_count, 0, edges, pebbles)
             with self.subTest(vertex_count=vertex_count, edges=edges, pebbles=pebbles):
-                self.assertEqual(reachable_vertices(vertex_count, edges, pebbles), [-22])
+                for answer in answers_without_target(vertex_count, edges, pebbles):
+                    self.assertEqual(answer, [-22])
 
     def test_vertex_count(self):
         self.outside(BAD_VERTEX_COUNTS)
@@ -148,10 +162,14 @@ class WithinTheLimits(unittest.TestCase):
         self.assertEqual(max_pebbles_at(1, 0, [], [1]), [1])
         self.assertEqual(shortest_sequence(1, 0, 1, [], [1]), [0])
         self.assertEqual(reachable_vertices(1, [], [1]), [1, 0])
+        self.assertEqual(weight_at(1, 0, [], [1]), [0, 1, 1])
+        self.assertEqual(count_configurations(1, [], [1]), [1, 1])
         self.assertEqual(min_moves(5, 4, 1, COMPLETE_5, [2, 0, 0, 0, 0]), [1])
         self.assertEqual(max_pebbles_at(5, 4, COMPLETE_5, [2, 0, 0, 0, 0]), [1])
         self.assertEqual(shortest_sequence(5, 4, 1, COMPLETE_5, [2, 0, 0, 0, 0]), [1, 0, 4])
         self.assertEqual(reachable_vertices(5, COMPLETE_5, [2, 0, 0, 0, 0]), [5, 0, 1, 2, 3, 4])
+        self.assertEqual(weight_at(5, 4, COMPLETE_5, [1, 0, 0, 0, 0]), [0, 1, 2])
+        self.assertEqual(count_configurations(5, COMPLETE_5, [2, 0, 0, 0, 0]), [2, 5])
 
     def test_twelve_pebbles(self):
         self.assertEqual(min_moves(5, 4, 1, COMPLETE_5, [3, 3, 3, 3, 0]), [1])
@@ -161,6 +179,10 @@ class WithinTheLimits(unittest.TestCase):
         self.assertEqual(shortest_sequence(5, 4, 6, COMPLETE_5, [12, 0, 0, 0, 0]), [6] + [0, 4] * 6)
         self.assertEqual(reachable_vertices(5, COMPLETE_5, [3, 3, 3, 3, 0]), [5, 0, 1, 2, 3, 4])
         self.assertEqual(reachable_vertices(5, [], [0, 0, 0, 0, 12]), [1, 4])
+        self.assertEqual(weight_at(5, 4, COMPLETE_5, [3, 3, 3, 2, 1]), [0, 13, 2])
+        self.assertEqual(weight_at(1, 0, [], [12]), [0, 12, 1])
+        self.assertEqual(count_configurations(2, [0, 1], [8, 4]), [12, 24])
+        self.assertEqual(count_configurations(1, [], [12]), [1, 1])
 
     def test_second_endpoints_may_fall_where_the_first_ones_rise(self):
         self.assertEqual(min_moves(4, 3, 1, [0, 3, 1, 2], [2, 0, 0, 0]), [1])
@@ -168,11 +190,15 @@ class WithinTheLimits(unittest.TestCase):
         self.assertEqual(max_pebbles_at(5, 3, [0, 4, 1, 3, 2, 3], [0, 4, 4, 0, 0]), [4])
         self.assertEqual(shortest_sequence(4, 1, 1, [0, 3, 1, 2], [2, 0, 2, 0]), [1, 2, 1])
         self.assertEqual(reachable_vertices(4, [0, 3, 1, 2], [2, 0, 0, 0]), [2, 0, 3])
+        self.assertEqual(weight_at(4, 1, [0, 3, 1, 2], [5, 0, 3, 0]), [0, 3, 2])
+        self.assertEqual(count_configurations(4, [0, 3, 1, 2], [2, 0, 2, 0]), [3, 4])
 
     def test_the_first_edge_need_not_touch_vertex_0(self):
         self.assertEqual(max_pebbles_at(5, 4, [3, 4], [0, 0, 0, 2, 0]), [1])
         self.assertEqual(shortest_sequence(5, 4, 1, [3, 4], [0, 0, 0, 2, 0]), [1, 3, 4])
         self.assertEqual(reachable_vertices(5, [3, 4], [0, 0, 0, 2, 0]), [2, 3, 4])
+        self.assertEqual(weight_at(5, 4, [3, 4], [1, 1, 1, 3, 0]), [0, 3, 2])
+        self.assertEqual(count_configurations(5, [3, 4], [3, 0, 0, 2, 0]), [2, 2])
 
 
 class Targets(Refusals):
@@ -183,6 +209,7 @@ class Targets(Refusals):
             self.assertEqual(min_moves(vertex_count, last, 2, [], pebbles), [0])
             self.assertEqual(max_pebbles_at(vertex_count, last, [], pebbles), [2])
             self.assertEqual(shortest_sequence(vertex_count, last, 2, [], pebbles), [0])
+            self.assertEqual(weight_at(vertex_count, last, [], pebbles), [0, 2, 1])
             self.refused(-2, vertex_count, vertex_count, [], pebbles)
 
     def test_far_outside(self):

@@ -1,65 +1,13 @@
 """The requirements, and answers held against searches that share nothing with the program."""
 
 import functools
-import itertools
 import unittest
+from fractions import Fraction
 
-from halvedpebbles.graph import max_pebbles_at, min_moves, reachable_vertices, shortest_sequence
-
-LARGER_CASES = [
-    (5, (0, 1, 1, 2, 2, 3, 3, 4), (8, 4, 0, 0, 0)),
-    (5, (0, 1, 1, 2, 2, 3, 3, 4), (5, 0, 1, 1, 4)),
-    (5, (0, 1, 0, 4, 1, 2, 2, 3, 3, 4), (0, 0, 6, 5, 1)),
-    (5, (0, 1, 0, 4, 1, 2, 2, 3, 3, 4), (1, 3, 2, 3, 1)),
-    (5, (0, 1, 0, 2, 0, 3, 0, 4), (0, 3, 3, 3, 3)),
-    (5, (0, 1, 0, 2, 1, 2, 3, 4), (3, 5, 0, 3, 1)),
-    (5, (0, 2, 1, 2, 2, 3, 3, 4), (5, 5, 1, 1, 0)),
-    (5, (0, 1, 0, 2, 0, 3, 0, 4, 1, 2, 1, 3, 1, 4, 2, 3, 2, 4, 3, 4), (0, 3, 3, 3, 3)),
-    (5, (0, 3, 0, 4, 1, 2, 1, 3, 2, 4), (0, 7, 2, 1, 1)),
-    (5, (0, 3, 0, 4, 1, 2, 2, 3, 2, 4), (1, 3, 1, 1, 2)),
-    (5, (0, 1, 0, 3, 0, 4, 1, 2, 1, 3, 1, 4), (1, 3, 2, 0, 2)),
-    (5, (0, 2, 0, 3, 0, 4, 1, 2, 1, 4, 3, 4), (0, 3, 3, 3, 0)),
-    (4, (0, 1, 0, 3, 1, 2, 2, 3), (7, 3, 0, 1)),
-    (4, (0, 1, 0, 2, 1, 2, 2, 3), (9, 2, 1, 0)),
-    (3, (0, 1, 1, 2), (10, 1, 1)),
-    (2, (0, 1), (5, 7)),
-    (1, (), (12,)),
-]
-
-
-def graphs(vertex_count):
-    """Every graph with that many vertices, as a list of endpoints in order."""
-    pairs = list(itertools.combinations(range(vertex_count), 2))
-    for size in range(len(pairs) + 1):
-        for chosen in itertools.combinations(pairs, size):
-            yield [vertex for pair in chosen for vertex in pair]
-
-
-def configurations(vertex_count, most):
-    """Every configuration with at most that many pebbles."""
-    for pebbles in itertools.product(range(most + 1), repeat=vertex_count):
-        if sum(pebbles) <= most:
-            yield list(pebbles)
-
-
-def directions(edges):
-    pairs = list(zip(edges[0::2], edges[1::2]))
-    return pairs + [(v, u) for u, v in pairs]
-
-
-def moved(pebbles, source, destination):
-    after = list(pebbles)
-    after[source] -= 2
-    after[destination] += 1
-    return tuple(after)
-
-
-def all_sequences(edges, pebbles, done=()):
-    """Every sequence of moves, one by one, with the configuration at its end."""
-    yield done, tuple(pebbles)
-    for move in directions(edges):
-        if pebbles[move[0]] >= 2:
-            yield from all_sequences(edges, moved(pebbles, *move), done + (move,))
+from halvedpebbles.graph import max_pebbles_at, min_moves, reachable_vertices, shortest_sequence, weight_at
+from plain import (
+    LARGER_CASES, all_sequences, configurations, directions, graphs, moved, next_configurations, nonempty_levels,
+)
 
 
 def by_length_and_order(sequence):
@@ -83,9 +31,8 @@ def best_sequence(edges, pebbles, target, count):
     if pebbles[target] >= count:
         return ()
     rests = [
-        (move, best_sequence(edges, moved(pebbles, *move), target, count))
-        for move in directions(edges)
-        if pebbles[move[0]] >= 2
+        (move, best_sequence(edges, after, target, count))
+        for move, after in next_configurations(edges, pebbles)
     ]
     return min([(move,) + rest for move, rest in rests if rest is not None], key=by_length_and_order, default=None)
 
@@ -174,6 +121,43 @@ class Sequences(unittest.TestCase):
             for target in range(vertex_count):
                 for count in range(14):
                     self.performed(vertex_count, target, count, list(edges), list(pebbles))
+
+
+class Weight(unittest.TestCase):
+    def weights(self, vertex_count, edges, pebbles):
+        """The weight at every target, each an exact fraction."""
+        answers = [weight_at(vertex_count, target, edges, pebbles) for target in range(vertex_count)]
+        for answer in answers:
+            self.assertEqual(len(answer), 3, (edges, pebbles))
+            self.assertEqual(answer[0], 0, (edges, pebbles))
+        return [Fraction(numerator, denominator) for _, numerator, denominator in answers]
+
+    def bounds(self, vertex_count, edges, pebbles):
+        before = self.weights(vertex_count, edges, pebbles)
+        for target in range(vertex_count):
+            most = max_pebbles_at(vertex_count, target, edges, pebbles)[0]
+            self.assertLessEqual(most, before[target], (edges, pebbles, target))
+        for move, pebbles_after in next_configurations(edges, pebbles):
+            after = self.weights(vertex_count, edges, list(pebbles_after))
+            for target in range(vertex_count):
+                self.assertLessEqual(after[target], before[target], (edges, pebbles, move, target))
+
+    def test_small_inputs(self):
+        for vertex_count, most in ((1, 12), (2, 12), (3, 6), (4, 4)):
+            for edges in graphs(vertex_count):
+                for pebbles in configurations(vertex_count, most):
+                    self.bounds(vertex_count, edges, pebbles)
+
+    def test_five_vertices(self):
+        for edges in graphs(5):
+            for pebbles in ([2, 2, 2, 0, 1], [3, 0, 4, 1, 0], [0, 6, 0, 0, 1]):
+                self.bounds(5, edges, pebbles)
+
+    def test_larger_inputs(self):
+        for vertex_count, edges, pebbles in LARGER_CASES:
+            for level in nonempty_levels(edges, pebbles)[:4]:
+                for after in sorted(level):
+                    self.bounds(vertex_count, list(edges), list(after))
 
 
 class Monotonicity(unittest.TestCase):
