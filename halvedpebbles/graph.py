@@ -7,6 +7,7 @@ numbers; an error code is the only number of its answer.
 
 MAX_VERTICES = 5
 MAX_PEBBLES = 12
+MAX_MOVES = 15
 # No distance is longer than MAX_VERTICES - 1 = 4, so these parts can be halved at every edge.
 PARTS_OF_A_PEBBLE = 16
 
@@ -28,6 +29,13 @@ def edges_fit(vertex_count, edges):
 def pebbles_fit(vertex_count, pebbles):
     """Tell whether there is one number for each vertex and the sum is not too large."""
     return len(pebbles) == vertex_count and sum(pebbles) <= MAX_PEBBLES
+
+
+def moves_fit(vertex_count, moves):
+    """Tell whether the moves are pairs of vertices, adjacent or not, and not too many."""
+    if len(moves) % 2 != 0 or len(moves) > 2 * MAX_MOVES:
+        return False
+    return all([vertex < vertex_count for vertex in moves])
 
 
 def limits_error(vertex_count, edges, pebbles):
@@ -153,6 +161,23 @@ def lowest_terms(numerator, denominator):
     return [numerator, denominator]
 
 
+def performed(edges, pebbles, moves):
+    """Perform the moves up to the first one that is not possible.
+
+    The answer is how many were performed, then the configuration at the end, in one list.
+    """
+    moves_of_graph = moves_along(edges)
+    configuration = tuple(pebbles)
+    move_count = 0
+    for k in range(0, len(moves), 2):
+        move = (moves[k], moves[k + 1])
+        if move not in moves_of_graph or configuration[move[0]] < 2:
+            break
+        configuration = after_move(configuration, move)
+        move_count = move_count + 1
+    return [move_count] + list(configuration)
+
+
 def min_moves(vertex_count, target, count, edges, pebbles):
     """Answer the smallest number of moves after which the target has count pebbles."""
     # The errors of both operations are the same, and the number of moves is answered first there.
@@ -203,3 +228,13 @@ def count_configurations(vertex_count, edges, pebbles):
         return [error]
     levels = nonempty_levels(edges, pebbles)
     return [len(levels), sum([len(level) for level in levels])]
+
+
+def apply_moves(vertex_count, edges, pebbles, moves):
+    """Answer how many moves were performed, up to the first impossible one, then the configuration."""
+    error = limits_error(vertex_count, edges, pebbles)
+    if error != 0:
+        return [error]
+    if not moves_fit(vertex_count, moves):
+        return [-22]
+    return performed(edges, pebbles, moves)

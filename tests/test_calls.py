@@ -71,6 +71,17 @@ CALLS = [
     ("count_configurations", (3, [1, 0], [4, 0, 0]), [-22]),
     ("count_configurations", (3, PATH_3, [13, 0, 0]), [-22]),
     ("count_configurations", (4, CYCLE_4, [3, 0, 0, 0]), [2, 3]),
+    ("apply_moves", (3, PATH_3, [4, 0, 0], [0, 1, 1, 2]), [1, 2, 1, 0]),
+    ("apply_moves", (3, PATH_3, [4, 0, 0], [0, 1, 0, 1, 1, 2]), [3, 0, 0, 1]),
+    ("apply_moves", (3, PATH_3, [4, 0, 0], []), [0, 4, 0, 0]),
+    ("apply_moves", (3, PATH_3, [4, 0, 0], [0, 2, 0, 1]), [0, 4, 0, 0]),
+    ("apply_moves", (3, [0, 2], [4, 0, 0], [0, 2, 0, 2]), [2, 0, 0, 2]),
+    ("apply_moves", (3, PATH_3, [4, 0, 0], [0, 1, 1]), [-22]),
+    ("apply_moves", (3, PATH_3, [4, 0, 0], [0, 3]), [-22]),
+    ("apply_moves", (3, PATH_3, [4, 0, 0], [0, 1] * 16), [-22]),
+    ("apply_moves", (3, [1, 0], [4, 0, 0], [0, 1]), [-22]),
+    ("apply_moves", (3, PATH_3, [13, 0, 0], []), [-22]),
+    ("apply_moves", (4, CYCLE_4, [4, 3, 0, 3], [1, 2, 3, 2, 0, 1]), [3, 2, 2, 2, 1]),
 ]
 
 
@@ -91,7 +102,9 @@ class Form(unittest.TestCase):
             "reachable_vertices": ["vertex_count", "edges", "pebbles"],
             "weight_at": ["vertex_count", "target", "edges", "pebbles"],
             "count_configurations": ["vertex_count", "edges", "pebbles"],
+            "apply_moves": ["vertex_count", "edges", "pebbles", "moves"],
         }
+        self.assertEqual({name for name, _, _ in CALLS}, set(parameters))
         for name, expected in parameters.items():
             self.assertEqual(list(inspect.signature(getattr(graph, name)).parameters), expected)
 
@@ -103,6 +116,8 @@ class Form(unittest.TestCase):
         self.assertEqual(graph.reachable_vertices(pebbles=[2, 0, 0], edges=PATH_3, vertex_count=3), [2, 0, 1])
         self.assertEqual(graph.weight_at(pebbles=[3, 0, 0], edges=PATH_3, target=2, vertex_count=3), [0, 3, 4])
         self.assertEqual(graph.count_configurations(pebbles=[4, 0, 0], edges=PATH_3, vertex_count=3), [4, 5])
+        answer = graph.apply_moves(moves=[0, 1], pebbles=[4, 0, 0], edges=PATH_3, vertex_count=3)
+        self.assertEqual(answer, [1, 2, 1, 0])
 
     def test_answers_are_flat_lists_of_ints(self):
         for name, handed, expected in CALLS:
@@ -117,6 +132,12 @@ class Form(unittest.TestCase):
             for name, handed, _ in CALLS:
                 called(name, copied(handed))
         self.assertEqual(out.getvalue(), "")
+
+    def test_nothing_is_imported(self):
+        before = set(sys.modules)
+        for name, handed, _ in CALLS:
+            called(name, copied(handed))
+        self.assertEqual(set(sys.modules), before)
 
 
 class HandedIn(unittest.TestCase):
@@ -152,6 +173,7 @@ class HandedIn(unittest.TestCase):
         self.assertEqual(graph.reachable_vertices(2, shared, shared), [1, 1])
         self.assertEqual(graph.weight_at(2, 0, shared, shared), [0, 1, 2])
         self.assertEqual(graph.count_configurations(2, shared, shared), [1, 1])
+        self.assertEqual(graph.apply_moves(2, shared, shared, shared), [0, 0, 1])
         self.assertEqual(shared, [0, 1])
 
 
@@ -179,6 +201,7 @@ class NothingIsKept(unittest.TestCase):
     def test_lists_that_the_caller_changes_between_calls(self):
         edges = [0, 1, 1, 2]
         pebbles = [4, 0, 0]
+        moves = [0, 1, 1, 2]
 
         def answers():
             return [
@@ -188,17 +211,27 @@ class NothingIsKept(unittest.TestCase):
                 graph.reachable_vertices(3, edges, pebbles),
                 graph.weight_at(3, 2, edges, pebbles),
                 graph.count_configurations(3, edges, pebbles),
+                graph.apply_moves(3, edges, pebbles, moves),
             ]
 
-        self.assertEqual(answers(), [[3], [1], [3, 0, 1, 0, 1, 1, 2], [3, 0, 1, 2], [0, 1, 1], [4, 5]])
+        expected = [[3], [1], [3, 0, 1, 0, 1, 1, 2], [3, 0, 1, 2], [0, 1, 1], [4, 5], [1, 2, 1, 0]]
+        self.assertEqual(answers(), expected)
         pebbles[1] = 2
-        self.assertEqual(answers(), [[1], [2], [1, 1, 2], [3, 0, 1, 2], [0, 2, 1], [6, 13]])
+        expected = [[1], [2], [1, 1, 2], [3, 0, 1, 2], [0, 2, 1], [6, 13], [2, 2, 1, 1]]
+        self.assertEqual(answers(), expected)
+        moves[3] = 0
+        self.assertEqual(answers(), expected[:6] + [[2, 3, 1, 0]])
         edges.pop()
-        self.assertEqual(answers(), [[-22]] * 6)
+        self.assertEqual(answers(), [[-22]] * 7)
         edges.pop()
-        self.assertEqual(answers(), [[-33], [0], [-33], [2, 0, 1], [0, 0, 1], [6, 8]])
+        expected = [[-33], [0], [-33], [2, 0, 1], [0, 0, 1], [6, 8], [2, 3, 1, 0]]
+        self.assertEqual(answers(), expected)
+        moves.pop()
+        self.assertEqual(answers(), expected[:6] + [[-22]])
+        moves.pop()
         edges[1] = 2
-        self.assertEqual(answers(), [[1], [2], [1, 0, 2], [3, 0, 1, 2], [0, 2, 1], [4, 4]])
+        expected = [[1], [2], [1, 0, 2], [3, 0, 1, 2], [0, 2, 1], [4, 4], [0, 4, 2, 0]]
+        self.assertEqual(answers(), expected)
 
 
 if __name__ == "__main__":

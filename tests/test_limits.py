@@ -3,7 +3,7 @@
 import unittest
 
 from halvedpebbles.graph import (
-    count_configurations, max_pebbles_at, min_moves, reachable_vertices, shortest_sequence, weight_at,
+    apply_moves, count_configurations, max_pebbles_at, min_moves, reachable_vertices, shortest_sequence, weight_at,
 )
 
 BIGGEST = 4294967295
@@ -94,8 +94,9 @@ BAD_PEBBLES = [
 BAD_GRAPHS_AND_CONFIGURATIONS = BAD_VERTEX_COUNTS + BAD_EDGES + BAD_PEBBLES
 
 
-# What counts are handed in where no count may make a difference.
+# What counts and moves are handed in where they may make no difference.
 COUNTS = (0, 1, 2, 13, BIGGEST)
+SEVERAL_MOVES = ([], [0, 0], [0, 1], [0, 1, 1], [0, BIGGEST], [0] * 30, [0] * 32)
 
 
 def answers_with_target(vertex_count, target, edges, pebbles):
@@ -112,10 +113,13 @@ def answers_with_target(vertex_count, target, edges, pebbles):
 
 def answers_without_target(vertex_count, edges, pebbles):
     """What every operation that names no target answers."""
-    return [
+    answers = [
         reachable_vertices(vertex_count, edges, pebbles),
         count_configurations(vertex_count, edges, pebbles),
     ]
+    for moves in SEVERAL_MOVES:
+        answers.append(apply_moves(vertex_count, edges, pebbles, moves))
+    return answers
 
 
 class Refusals(unittest.TestCase):
@@ -164,12 +168,14 @@ class WithinTheLimits(unittest.TestCase):
         self.assertEqual(reachable_vertices(1, [], [1]), [1, 0])
         self.assertEqual(weight_at(1, 0, [], [1]), [0, 1, 1])
         self.assertEqual(count_configurations(1, [], [1]), [1, 1])
+        self.assertEqual(apply_moves(1, [], [1], [0, 0]), [0, 1])
         self.assertEqual(min_moves(5, 4, 1, COMPLETE_5, [2, 0, 0, 0, 0]), [1])
         self.assertEqual(max_pebbles_at(5, 4, COMPLETE_5, [2, 0, 0, 0, 0]), [1])
         self.assertEqual(shortest_sequence(5, 4, 1, COMPLETE_5, [2, 0, 0, 0, 0]), [1, 0, 4])
         self.assertEqual(reachable_vertices(5, COMPLETE_5, [2, 0, 0, 0, 0]), [5, 0, 1, 2, 3, 4])
         self.assertEqual(weight_at(5, 4, COMPLETE_5, [1, 0, 0, 0, 0]), [0, 1, 2])
         self.assertEqual(count_configurations(5, COMPLETE_5, [2, 0, 0, 0, 0]), [2, 5])
+        self.assertEqual(apply_moves(5, COMPLETE_5, [2, 0, 0, 0, 0], [0, 4]), [1, 0, 0, 0, 0, 1])
 
     def test_twelve_pebbles(self):
         self.assertEqual(min_moves(5, 4, 1, COMPLETE_5, [3, 3, 3, 3, 0]), [1])
@@ -183,6 +189,8 @@ class WithinTheLimits(unittest.TestCase):
         self.assertEqual(weight_at(1, 0, [], [12]), [0, 12, 1])
         self.assertEqual(count_configurations(2, [0, 1], [8, 4]), [12, 24])
         self.assertEqual(count_configurations(1, [], [12]), [1, 1])
+        self.assertEqual(apply_moves(5, COMPLETE_5, [3, 3, 3, 2, 1], [3, 4]), [1, 3, 3, 3, 0, 2])
+        self.assertEqual(apply_moves(1, [], [12], []), [0, 12])
 
     def test_second_endpoints_may_fall_where_the_first_ones_rise(self):
         self.assertEqual(min_moves(4, 3, 1, [0, 3, 1, 2], [2, 0, 0, 0]), [1])
@@ -192,6 +200,7 @@ class WithinTheLimits(unittest.TestCase):
         self.assertEqual(reachable_vertices(4, [0, 3, 1, 2], [2, 0, 0, 0]), [2, 0, 3])
         self.assertEqual(weight_at(4, 1, [0, 3, 1, 2], [5, 0, 3, 0]), [0, 3, 2])
         self.assertEqual(count_configurations(4, [0, 3, 1, 2], [2, 0, 2, 0]), [3, 4])
+        self.assertEqual(apply_moves(4, [0, 3, 1, 2], [2, 0, 2, 0], [0, 3, 2, 1]), [2, 0, 1, 0, 1])
 
     def test_the_first_edge_need_not_touch_vertex_0(self):
         self.assertEqual(max_pebbles_at(5, 4, [3, 4], [0, 0, 0, 2, 0]), [1])
@@ -199,6 +208,7 @@ class WithinTheLimits(unittest.TestCase):
         self.assertEqual(reachable_vertices(5, [3, 4], [0, 0, 0, 2, 0]), [2, 3, 4])
         self.assertEqual(weight_at(5, 4, [3, 4], [1, 1, 1, 3, 0]), [0, 3, 2])
         self.assertEqual(count_configurations(5, [3, 4], [3, 0, 0, 2, 0]), [2, 2])
+        self.assertEqual(apply_moves(5, [3, 4], [0, 0, 0, 2, 0], [3, 4]), [1, 0, 0, 0, 0, 1])
 
 
 class Targets(Refusals):

@@ -15,14 +15,6 @@ COMPLETE_5 = [0, 1, 0, 2, 0, 3, 0, 4, 1, 2, 1, 3, 1, 4, 2, 3, 2, 4, 3, 4]
 TWO_PIECES = [0, 1, 2, 3]
 
 
-class Examples(unittest.TestCase):
-    def test_first_row(self):
-        self.assertEqual(min_moves(3, 2, 1, [0, 1, 1, 2], [4, 0, 0]), [3])
-
-    def test_last_row(self):
-        self.assertEqual(min_moves(3, 2, 1, [0, 1, 1, 2], [3, 0, 0]), [-33])
-
-
 class Paths(unittest.TestCase):
     def test_one_edge_either_way(self):
         self.assertEqual(min_moves(2, 1, 1, [0, 1], [2, 0]), [1])

@@ -4,7 +4,9 @@ import functools
 import unittest
 from fractions import Fraction
 
-from halvedpebbles.graph import max_pebbles_at, min_moves, reachable_vertices, shortest_sequence, weight_at
+from halvedpebbles.graph import (
+    apply_moves, max_pebbles_at, min_moves, reachable_vertices, shortest_sequence, weight_at,
+)
 from plain import (
     LARGER_CASES, all_sequences, configurations, directions, graphs, moved, next_configurations, nonempty_levels,
 )
@@ -192,6 +194,30 @@ class Monotonicity(unittest.TestCase):
                 moves = min_moves(vertex_count, target, most, list(edges), list(pebbles))[0]
                 self.assertGreaterEqual(moves, most - pebbles[target])
                 self.assertLessEqual(moves, sum(pebbles) - most)
+
+    def every_performed_move_costs_one(self, vertex_count, edges, pebbles, moves):
+        """Perform ever more of the moves, and look how many pebbles are left."""
+        for end in range(0, len(moves) + 1, 2):
+            answer = apply_moves(vertex_count, edges, pebbles, moves[:end])
+            self.assertEqual(sum(answer[1:]), sum(pebbles) - answer[0], (vertex_count, edges, pebbles, moves[:end]))
+            self.assertEqual(len(answer), 1 + vertex_count)
+            self.assertGreaterEqual(min(answer[1:]), 0)
+
+    def test_one_move_at_small_inputs(self):
+        for vertex_count, most in ((1, 12), (2, 12), (3, 6), (4, 4)):
+            for edges in graphs(vertex_count):
+                for pebbles in configurations(vertex_count, most):
+                    for source in range(vertex_count):
+                        for goal in range(vertex_count):
+                            self.every_performed_move_costs_one(vertex_count, edges, pebbles, [source, goal])
+
+    def test_one_move_after_the_other(self):
+        for vertex_count, edges, pebbles in LARGER_CASES:
+            handed = (list(edges), list(pebbles))
+            for target in range(vertex_count):
+                for count in range(14):
+                    moves = shortest_sequence(vertex_count, target, count, *handed)[1:]
+                    self.every_performed_move_costs_one(vertex_count, *handed, moves)
 
 
 if __name__ == "__main__":

@@ -16,11 +16,6 @@ COMPLETE_5 = [0, 1, 0, 2, 0, 3, 0, 4, 1, 2, 1, 3, 1, 4, 2, 3, 2, 4, 3, 4]
 TWO_PIECES = [0, 1, 2, 3]
 
 
-class Examples(unittest.TestCase):
-    def test_second_row(self):
-        self.assertEqual(shortest_sequence(3, 2, 1, [0, 1, 1, 2], [4, 0, 0]), [3, 0, 1, 0, 1, 1, 2])
-
-
 class Graphs(unittest.TestCase):
     def test_one_edge_either_way(self):
         self.assertEqual(shortest_sequence(2, 1, 1, [0, 1], [2, 0]), [1, 0, 1])

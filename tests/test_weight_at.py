@@ -30,11 +30,6 @@ def plain_shares(vertex_count, target, edges):
     return shares
 
 
-class Examples(unittest.TestCase):
-    def test_third_row(self):
-        self.assertEqual(weight_at(3, 2, [0, 1, 1, 2], [4, 0, 0]), [0, 1, 1])
-
-
 class Paths(unittest.TestCase):
     def test_one_edge_either_way(self):
         self.assertEqual(weight_at(2, 1, [0, 1], [1, 0]), [0, 1, 2])
